@@ -1,0 +1,1 @@
+"""Selfsight: who is seen in a hall of mirrors."""
