@@ -2,6 +2,9 @@
 
 from selfsight.amounts import common_divisor
 
+# The one step that has no direction.
+NO_STEP = ((0, 1), (0, 1))
+
 
 def direction(step):
     # Both bottoms are above 0, so multiplying by them keeps the way the step leads.

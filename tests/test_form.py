@@ -111,6 +111,45 @@ class FormTest(unittest.TestCase):
             for each in node.names:
                 self.assertIn(each.name, defined[node.module], where)
 
+    def test_no_two_files_draw_from_one_another(self):
+        drawn = {name[:-3]: {node.module.partition(".")[2] for node in tree.body if isinstance(node, ast.ImportFrom)}
+                 for name, tree in trees()}
+        while drawn:
+            free = [name for name in drawn if not drawn[name] & set(drawn)]
+            self.assertNotEqual(free, [], drawn)
+            for name in free:
+                drawn.pop(name)
+
+    def test_locals_are_not_called_like_imports_and_classes(self):
+        for name, tree in trees():
+            taken = {node.name for node in tree.body if isinstance(node, ast.ClassDef)}
+            taken |= {each.name for node in tree.body if isinstance(node, ast.ImportFrom) for each in node.names}
+            for node in ast.walk(tree):
+                if isinstance(node, ast.arg) or (isinstance(node, ast.Name) and isinstance(node.ctx, ast.Store)):
+                    self.assertNotIn(node.arg if isinstance(node, ast.arg) else node.id, taken, f"{name}:{node.lineno}")
+
+    def test_no_name_is_a_method_and_a_value(self):
+        methods = {each.name for where, node in nodes_of(ast.ClassDef) for each in node.body
+                   if isinstance(each, ast.FunctionDef)}
+        own_values = {node.attr for where, node in nodes_of(ast.Attribute) if isinstance(node.ctx, ast.Store)}
+        self.assertEqual(methods & own_values, set())
+        pythons = {name for kind in (str, int, list, dict, set, bytes) for name in dir(kind)}
+        self.assertEqual(own_values & pythons, set())
+
+    def test_ranges_and_their_like_are_walked_at_once(self):
+        walkers = {"list", "tuple", "dict", "sorted", "sum", "any", "all", "enumerate", "zip", "min", "max"}
+        lazy = {"range", "zip", "enumerate", "reversed"}
+        for name, tree in trees():
+            walked = set()
+            for node in ast.walk(tree):
+                if isinstance(node, (ast.For, ast.comprehension)):
+                    walked.add(node.iter)
+                if isinstance(node, ast.Call) and isinstance(node.func, ast.Name) and node.func.id in walkers:
+                    walked |= set(node.args[:1])
+            for node in ast.walk(tree):
+                if isinstance(node, ast.Call) and isinstance(node.func, ast.Name) and node.func.id in lazy:
+                    self.assertIn(node, walked, f"{name}:{node.lineno}")
+
     def test_pythons_own_names(self):
         for where, node in nodes_of(ast.Name):
             self.assertFalse(node.id.startswith("_"), where)

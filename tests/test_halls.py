@@ -3,17 +3,11 @@
 import unittest
 from itertools import permutations
 
+from byhand import edges_of
 from selfsight.errors import NoHall
 from selfsight.halls import checked, faces, is_corner
 
 NO_WHOLE_NUMBERS = (True, False, None, "1", "", 1.0, (1, 1), [1], {}, b"1")
-
-
-def edges_of(width, height):
-    """Every edge of the floor, flat ones first, as they are sorted."""
-    flat = [("flat", x, y) for x in range(width) for y in range(height + 1)]
-    upright = [("up", x, y) for x in range(width + 1) for y in range(height)]
-    return flat + upright
 
 
 def squares_beside(kind, x, y):
