@@ -6,6 +6,8 @@ from selfsight.halls import checked
 
 
 def box(width, height):
+    # Sizes that are none are refused ahead of the sides, of which there might be too many to make.
+    checked((width, height, ()))
     sides = []
     for x in range(width):
         sides.append(("flat", x, 0, "p", "m"))

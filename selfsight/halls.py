@@ -35,6 +35,10 @@ def outward_face(width, height, kind, x, y):
     return None
 
 
+def is_within(hall, kind, x, y):
+    return is_edge(hall[0], hall[1], kind, x, y) and outward_face(hall[0], hall[1], kind, x, y) is None
+
+
 def is_side(width, height, side):
     if not is_edge(width, height, side[0], side[1], side[2]):
         return False

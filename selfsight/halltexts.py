@@ -8,30 +8,33 @@ KINDS = {"|": "up", "-": "flat"}
 SIGNS = {"up": "|", "flat": "-"}
 
 
-def is_written_number(text):
-    if len(text) not in (1, 2) or not all([sign in FIGURES for sign in text]):
-        return False
-    return text == "0" or text[0] != "0"
+def whole_in(word, most_figures):
+    # None for what is no number so written, as in all that reads words.
+    if len(word) == 0 or len(word) > most_figures or not all([sign in FIGURES for sign in word]):
+        return None
+    return int(word) if word == "0" or word[0] != "0" else None
 
 
 def sizes_in(word):
     # A word without its x leaves an empty height, which is no number.
     parts = word.partition("x")
-    if not is_written_number(parts[0]) or not is_written_number(parts[2]):
-        return None
-    return (int(parts[0]), int(parts[2]))
+    sizes = (whole_in(parts[0], 2), whole_in(parts[2], 2))
+    return None if None in sizes else sizes
+
+
+def edge_in(word, most_figures):
+    parts = word[1:].partition(",")
+    edge = (KINDS.get(word[:1]), whole_in(parts[0], most_figures), whole_in(parts[2], most_figures))
+    return None if None in edge else edge
 
 
 def side_in(word):
-    kind = KINDS.get(word[:1])
-    place_and_signs = word[1:].partition(":")
-    place = place_and_signs[0].partition(",")
-    signs = place_and_signs[2]
-    if kind is None or not is_written_number(place[0]) or not is_written_number(place[2]):
+    parts = word.partition(":")
+    edge = edge_in(parts[0], 2)
+    signs = parts[2]
+    if edge is None or len(signs) != 2 or signs[0] not in FACES or signs[1] not in FACES:
         return None
-    if len(signs) != 2 or signs[0] not in FACES or signs[1] not in FACES:
-        return None
-    return (kind, int(place[0]), int(place[2]), signs[0], signs[1])
+    return edge + (signs[0], signs[1])
 
 
 def read_hall(text):

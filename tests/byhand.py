@@ -133,3 +133,41 @@ def random_people(chance, width, height, count, bottoms):
     """At most COUNT of them, since nobody stands where another one does."""
     drawn = [random_person(chance, width, height, bottoms) for turn in range(count)]
     return list(dict.fromkeys(drawn))
+
+
+def path_of(point, way):
+    """The bends of a way that `ways` told, from its begin to its end, worked out of its step and its turns alone."""
+    dx, dy, turns = way
+    bends = [values(point)] + [values(turn) for turn in turns]
+    speed, left = values((dx, dy)), Fraction(1)
+    for near, far in zip(bends, bends[1:]):
+        part = 0 if speed[0] != 0 else 1
+        left -= (far[part] - near[part]) / speed[part]
+        # A turn on an upright line changes the first part, one on a flat line the second.
+        speed[0 if far[0].denominator == 1 else 1] *= -1
+    return bends + [[near + left * by for near, by in zip(bends[-1], speed)]]
+
+
+def is_on_stretch(near, far, spot):
+    cross = (far[0] - near[0]) * (spot[1] - near[1]) - (far[1] - near[1]) * (spot[0] - near[0])
+    between = all(min(one, other) <= part <= max(one, other) for one, other, part in zip(near, far, spot))
+    return cross == 0 and between
+
+
+def goes_through(path, spot):
+    """Whether the spot lies on the path, ahead of its end."""
+    spot = list(spot)
+    return spot != path[-1] and any(is_on_stretch(near, far, spot) for near, far in zip(path, path[1:]))
+
+
+def comes_to_edge(path, kind, x, y):
+    """Whether the path has a point of the edge, its two ends with it."""
+    along = 1 if kind == "up" else 0
+    line, first = (x, y) if kind == "up" else (y, x)
+    for near, far in zip(path, path[1:]):
+        low, high = sorted([near[1 - along], far[1 - along]])
+        if low <= line <= high and low != high:
+            share = (line - near[1 - along]) / (far[1 - along] - near[1 - along])
+            if first <= near[along] + share * (far[along] - near[along]) <= first + 1:
+                return True
+    return False

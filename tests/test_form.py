@@ -96,6 +96,23 @@ class FormTest(unittest.TestCase):
             if isinstance(node.value, str):
                 self.assertNotIn("%", node.value, where)
 
+    def test_values_of_a_files_top_are_plain(self):
+        for name, tree in trees():
+            for place, node in enumerate(tree.body):
+                if isinstance(node, ast.Assign):
+                    above = {each.name for each in tree.body[:place] if isinstance(each, ast.FunctionDef)}
+                    self.assert_plain(node.value, above, f"{name}:{node.lineno}")
+
+    def assert_plain(self, node, above, where):
+        if isinstance(node, ast.Name):
+            self.assertIn(node.id, above, where)
+        else:
+            self.assertIsInstance(node, (ast.Constant, ast.Tuple, ast.List, ast.Dict), where)
+        for inner in ast.iter_child_nodes(node):
+            if isinstance(inner, ast.expr):
+                self.assertNotIsInstance(inner, (ast.List, ast.Dict), where)
+                self.assert_plain(inner, above, where)
+
     def test_is_stands_beside_none_and_truths(self):
         for where, node in nodes_of(ast.Compare):
             if any(isinstance(op, (ast.Is, ast.IsNot)) for op in node.ops):
